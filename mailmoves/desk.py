@@ -1,11 +1,22 @@
 """The calls on one object, which stand one behind another in one list."""
 
 from mailmoves.holder import Holder
+from mailmoves.refusals import NoneToTell, NotWide, TooFar, TooMuch
+from mailmoves.texts import TextFault
 
 TAKE = 0
 MORE = 1
 TEXT = 2
 SIZES = 3
+AT = 4
+FOLLOW = 5
+WHERE = 6
+INTO = 7
+
+TOO_FAR = -1
+TOO_MUCH = -2
+NONE_TO_TELL = -3
+FAULTY = -6
 
 
 class UnknownCall(Exception):
@@ -44,7 +55,30 @@ def answer(holder, calls):
         return holder.text()
     if number == SIZES:
         return holder.sizes()
+    if number == AT:
+        return holder.at(calls.step(), calls.step(), calls.row())
+    if number == FOLLOW:
+        return holder.follow(calls.step(), calls.step(), calls.step(), calls.row())
+    if number == WHERE:
+        return holder.where(calls.step(), calls.step(), calls.row())
+    if number == INTO:
+        return holder.into(calls.step(), calls.step())
     raise UnknownCall()
+
+
+def answer_or_refusal(holder, calls):
+    try:
+        return answer(holder, calls)
+    except TooFar:
+        return [TOO_FAR]
+    except TooMuch:
+        return [TOO_MUCH]
+    except NoneToTell:
+        return [NONE_TO_TELL]
+    except TextFault as fault:
+        return [FAULTY, fault.line_number, fault.why]
+    except NotWide as refused:
+        return [FAULTY, refused.place]
 
 
 def answers(calls):
@@ -53,7 +87,7 @@ def answers(calls):
     call_list = CallList(calls)
     told = []
     while not call_list.at_end():
-        numbers = answer(holder, call_list)
+        numbers = answer_or_refusal(holder, call_list)
         told.append(len(numbers))
         told.extend(numbers)
     return told

@@ -1,5 +1,7 @@
 """One line of redirections, read from its bytes."""
 
+from mailmoves.alphabet import letter_of
+
 MOVE = "move"
 HOLD = "hold"
 STOP = "stop"
@@ -11,12 +13,6 @@ MOST_WORDS = 8
 MOST_LETTERS = 32
 
 BLANK = 32
-FIRST_DIGIT = 48
-LAST_DIGIT = 57
-FIRST_SMALL = 97
-LAST_SMALL = 122
-DIGITS = "0123456789"
-SMALL = "abcdefghijklmnopqrstuvwxyz"
 
 
 class NotALine(Exception):
@@ -24,9 +20,10 @@ class NotALine(Exception):
 
 
 class Line:
-    """A line that is right: what its parts say, None where a part is left out."""
+    """A line that is right: what its parts say, None where a part is left out; its number once it stands in a text."""
 
     def __init__(self, kind, point):
+        self.number = None
         self.kind = kind
         self.point = point
         self.target = None
@@ -65,12 +62,11 @@ class Pieces:
         return left
 
 
-def letter_of(byte):
-    if FIRST_DIGIT <= byte <= LAST_DIGIT:
-        return DIGITS[byte - FIRST_DIGIT]
-    if FIRST_SMALL <= byte <= LAST_SMALL:
-        return SMALL[byte - FIRST_SMALL]
-    raise NotALine()
+def checked_letter(byte):
+    letter = letter_of(byte)
+    if not letter:
+        raise NotALine()
+    return letter
 
 
 def closed_piece(letters):
@@ -88,7 +84,7 @@ def pieces_of(row):
             pieces.append(closed_piece(letters))
             letters = []
         else:
-            letters.append(letter_of(byte))
+            letters.append(checked_letter(byte))
     pieces.append(closed_piece(letters))
     return pieces
 

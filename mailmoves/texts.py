@@ -24,6 +24,7 @@ def read_numbered(row, line_number):
         raise TextFault(line_number, NOT_SO) from None
     if line_number >= MOST_LINES:
         raise TextFault(line_number, TOO_MANY)
+    line.number = line_number
     return line
 
 

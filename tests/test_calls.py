@@ -4,7 +4,7 @@ import itertools
 import random
 import unittest
 
-from helper import DONE, SIZES, TEXT, as_bytes, ask, fault_of, more, take, told
+from helper import DONE, SIZES, TEXT, as_bytes, ask, fault_of, model_answers, more, take, told
 
 NONE = [0, 0, 0, 0, 0]
 A = "move 1 2 3 until 4 open for anna\n"
@@ -119,29 +119,9 @@ class TextAndSizes(unittest.TestCase):
         self.assertEqual(ask(take(text), TEXT, SIZES), [DONE, told(text), [0, 3433, 0, 0, 3433]])
 
 
-class Model:
-    """The calls told once more, with whole texts and patterns, as a check."""
-
-    def __init__(self):
-        self.held = b""
-
-    def answer(self, call):
-        if call == TEXT:
-            return told(self.held)
-        if call == SIZES:
-            rows = self.held.split(b"\n")[:-1]
-            return [0, len(rows)] + [sum(row.startswith(kind) for row in rows) for kind in (b"move", b"hold", b"stop")]
-        text = (self.held if call[0] == 1 else b"") + bytes(call[2:])
-        fault = fault_of(text)
-        if fault is None:
-            self.held = text
-        return fault or DONE
-
-
 class ManyCalls(unittest.TestCase):
     def check(self, calls):
-        model = Model()
-        self.assertEqual(ask(*calls), [model.answer(call) for call in calls])
+        self.assertEqual(ask(*calls), model_answers(*calls))
 
     def test_each_kind_in_every_order(self):
         kinds = (take(A + C), take("x\n"), more(B), more(C + "x"), TEXT, SIZES)

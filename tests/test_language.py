@@ -116,6 +116,21 @@ class Forms(unittest.TestCase):
             for alias in node.names:
                 self.assertIn(alias.name, defined, where(path, node))
 
+    def test_no_two_files_draw_from_one_another(self):
+        drawn = {path.stem: {node.module.split(".")[1] for node in ast.walk(tree_of(path))
+                             if isinstance(node, ast.ImportFrom)} for path in FILES}
+        while drawn:
+            free = [stem for stem, others in drawn.items() if not others & drawn.keys()]
+            self.assertTrue(free, f"these draw from one another: {sorted(drawn)}")
+            drawn = {stem: others for stem, others in drawn.items() if stem not in free}
+
+    def test_sets_are_not_kept(self):
+        for path, node in nodes_of(ast.AST):
+            for inner in ast.iter_child_nodes(node):
+                if isinstance(inner, ast.Call) and isinstance(inner.func, ast.Name) and inner.func.id == "set":
+                    self.assertTrue(isinstance(node, (ast.Compare, ast.BinOp)) or isinstance(node, ast.Call)
+                                    and node.func.id in ("sorted", "len") and not node.keywords, where(path, node))
+
     def test_functions_and_classes_are_plain(self):
         for path, node in nodes_of(ast.FunctionDef, ast.ClassDef):
             self.assertEqual(node.decorator_list, [], where(path, node))
@@ -158,6 +173,21 @@ class Names(unittest.TestCase):
                     self.assertRegex(name, r"^[A-Za-z][A-Za-z0-9_]*$", where(path, node))
                     self.assertFalse(name in vars(builtins), where(path, node))
                     self.assertNotIn(name, UNUSED_NAMES, where(path, node))
+
+    def test_locals_are_called_like_no_class_and_no_import(self):
+        for path in FILES:
+            tree = tree_of(path)
+            taken = [part.name for part in tree.body if isinstance(part, ast.ClassDef)]
+            taken += [alias.name for part in tree.body if isinstance(part, ast.ImportFrom) for alias in part.names]
+            for node in ast.walk(tree):
+                if not isinstance(node, ast.ClassDef):
+                    self.assertFalse(set(bound_names(node)) & set(taken), where(path, node))
+
+    def test_a_name_is_bound_once_at_a_files_top(self):
+        for path in FILES:
+            names = [name for part in tree_of(path).body for target in [part] + getattr(part, "targets", [])
+                     for name in bound_names(target)]
+            self.assertEqual(len(names), len(set(names)), path.name)
 
     def test_methods(self):
         methods, values = methods_and_values()
